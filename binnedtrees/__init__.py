@@ -1,0 +1,1 @@
+"""Replicated trees with log compaction."""
