@@ -1,6 +1,7 @@
 import unittest
 
 from helper import LARGEST, ask, begin, compact, deliver, last, move, nodes, send, tree
+from binnedtrees.members import Replica
 
 
 class OneReplica(unittest.TestCase):
@@ -88,6 +89,20 @@ class ThreeReplicas(unittest.TestCase):
             begin(3), move(0, 4, 0), send(0, 2), deliver(0), move(0, 5, 4), send(0, 1), deliver(1),
             send(2, 0), deliver(2), send(1, 0), deliver(3), compact(0), tree(0))
         self.assertEqual(found[-2:], [[1, 1], nodes((4, 1, 0), (5, 2, 0))])
+
+
+class TheHorizon(unittest.TestCase):
+    def test_holds_back_moves_with_a_larger_counter(self):
+        # No calls lead here: who has told that it has a move has told a clock that is not behind it.
+        # So the clocks are set by hand.
+        for clocks, expected in (([3, 3], 3), ([3, 2], 2), ([2, 3], 2), ([3, 1], 1), ([3, 0], 0)):
+            with self.subTest(clocks=clocks):
+                replica = Replica(0, 2)
+                for node in (4, 5, 6):
+                    replica.make_move(node, 0, 0)
+                replica.confirmed[1] = [3, 0]
+                replica.clocks = clocks
+                self.assertEqual(replica.compact_log(), [expected, expected])
 
 
 class TheTree(unittest.TestCase):
