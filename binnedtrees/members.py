@@ -28,6 +28,12 @@ class Replica:
         self.snapshot = Tree()
         self.compacted = 0
 
+    def own_counts(self):
+        return self.confirmed[self.place]
+
+    def horizon(self):
+        return min(self.clocks)
+
     def tree(self):
         # The snapshot itself must stay: an earlier move may still arrive.
         grown = self.snapshot.twin()
@@ -36,7 +42,7 @@ class Replica:
         return grown
 
     def make_move(self, node, parent, label):
-        number = self.confirmed[self.place][self.place] + 1
+        number = self.own_counts()[self.place] + 1
         counter = self.clocks[self.place] + 1
         move = Move(self.place, number, counter, node, parent, label)
         outcome = self.tree().apply(move)
@@ -50,12 +56,12 @@ class Replica:
         known = self.confirmed[receiver]
         moves = [move for move in self.log if move.number > known[move.origin]]
         # The counts are copied, since a later move here must not show in the message.
-        counts = list(self.confirmed[self.place])
+        counts = list(self.own_counts())
         return Message(self.place, receiver, counts, self.clocks[self.place], moves)
 
     # Gives back how many moves of the message were not received before.
     def take_in(self, message):
-        counts = self.confirmed[self.place]
+        counts = self.own_counts()
         fresh = [move for move in message.moves if move.number > counts[move.origin]]
         self.log = sorted(self.log + fresh, key=timestamp)
         for place in (self.place, message.sender):
@@ -67,7 +73,7 @@ class Replica:
         return all([move.number <= counts[move.origin] for counts in self.confirmed])
 
     def compactable_moves(self):
-        horizon = min(self.clocks)
+        horizon = self.horizon()
         moves = []
         for move in self.log:
             if move.counter > horizon or not self.is_confirmed(move):

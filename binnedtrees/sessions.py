@@ -80,7 +80,38 @@ class Session:
             return [NOT_THERE]
         return self.replicas[replica].compact_log()
 
-    def list_tree(self, replica):
+    def list_below(self, replica, top):
         if not self.has_replica(replica):
             return [NOT_THERE]
-        return counted_rows(self.replicas[replica].tree().rows_below(ROOT))
+        return counted_rows(self.replicas[replica].tree().rows_below(top))
+
+    def list_tree(self, replica):
+        return self.list_below(replica, ROOT)
+
+    def list_bin(self, replica):
+        return self.list_below(replica, BIN)
+
+    def list_log(self, replica):
+        if not self.has_replica(replica):
+            return [NOT_THERE]
+        return counted_rows([(move.origin, move.number) for move in self.replicas[replica].log])
+
+    def tell_horizon(self, replica):
+        if not self.has_replica(replica):
+            return [NOT_THERE]
+        asked = self.replicas[replica]
+        return [asked.horizon()] + asked.own_counts()
+
+    def count_compactable(self, replica):
+        if not self.has_replica(replica):
+            return [NOT_THERE]
+        return [len(self.replicas[replica].compactable_moves())]
+
+    def compare_replicas(self, replica, other):
+        if not self.has_replica(replica) or not self.has_replica(other):
+            return [NOT_THERE]
+        one = self.replicas[replica]
+        two = self.replicas[other]
+        same_counts = one.own_counts() == two.own_counts()
+        same_tree = one.tree().same_as(two.tree())
+        return [int(same_counts), int(same_tree)]

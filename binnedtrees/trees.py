@@ -35,6 +35,9 @@ class Tree:
         other.labels = dict(self.labels)
         return other
 
+    def same_as(self, other):
+        return self.parents == other.parents and self.labels == other.labels
+
     def has(self, node):
         return node == ROOT or node == BIN or node in self.parents
 

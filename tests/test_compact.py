@@ -102,6 +102,7 @@ class TheHorizon(unittest.TestCase):
                     replica.make_move(node, 0, 0)
                 replica.confirmed[1] = [3, 0]
                 replica.clocks = clocks
+                self.assertEqual(len(replica.compactable_moves()), expected)
                 self.assertEqual(replica.compact_log(), [expected, expected])
 
 

@@ -144,7 +144,8 @@ class Names(unittest.TestCase):
         self.assertEqual((methods - {"__init__"} | given) & theirs, set())
 
     def test_answers_stands_where_its_name_tells(self):
-        places = [stem for stem, whole in TREES.items() for node in whole.body if getattr(node, "name", "") == "answers"]
+        tops = [(stem, node) for stem, whole in TREES.items() for node in whole.body]
+        places = [stem for stem, node in tops if getattr(node, "name", "") == "answers"]
         self.assertEqual(places, ["replicas"])
 
 

@@ -60,19 +60,6 @@ class AChainOf62Nodes(unittest.TestCase):
         self.assertEqual(found, nodes(*[(node, node - 1, 0) for node in range(2, 64)]))
 
 
-class Asking(unittest.TestCase):
-    def test_changes_nothing(self):
-        calls = [
-            begin(2), move(0, 4, 0), move(0, 5, 4), send(0, 1), deliver(0), move(1, 4, 5), send(1, 0), deliver(1),
-            compact(0)]
-        mixed = []
-        for call in calls:
-            mixed += [call, tree(0), tree(1), tree(0)]
-        found = ask(*mixed)
-        self.assertEqual(found[::4], ask(*calls))
-        self.assertEqual(found[1::4], found[3::4])
-
-
 class Errors(unittest.TestCase):
     def test_no_such_replica(self):
         self.assertEqual(ask(tree(1), tree(LARGEST), tree(0)), [[-2], [-2], [0]])
